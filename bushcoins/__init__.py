@@ -1,0 +1,1 @@
+"""Bushes of coloured joints, and the fewest coins from one to another."""
