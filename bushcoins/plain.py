@@ -1,0 +1,60 @@
+"""Plain groves: bushes that tell the words of shapes in the place of names."""
+
+from bushcoins.bags import Bag
+from bushcoins.errors import BadGrove
+from bushcoins.groves import Grove, wrong_bush, wrong_root
+
+
+def check_plain(book, roots, bushes):
+    """Raise BadGrove for the first wrong part, if bushes are no plain grove of roots."""
+    path = wrong_root(roots)
+    if path is None:
+        kinds = {word: (stem, branches) for word, stem, branches in book.shapes()}
+        path = wrong_bush(roots, bushes, kinds, False)
+    if path is not None:
+        raise BadGrove(path)
+
+
+def walk_of(bushes):
+    """Return the list of the bushes, and of all bushes in them, in the order of a walk."""
+    found = []
+    waiting = list(reversed(bushes))
+    while waiting:
+        bush = waiting.pop()
+        found.append(bush)
+        for part in reversed(bush[1:]):
+            waiting.append(part)
+    return found
+
+
+def renamed(bushes, names):
+    """Return the tuple of the bushes with other first members: names, in the order of a walk."""
+    walk = walk_of(bushes)
+    # From the end of the walk on, the bushes of a bush are made ahead of it, its first one last.
+    made = []
+    for k in reversed(range(len(walk))):
+        parts = [made.pop() for _ in range(len(walk[k]) - 1)]
+        made.append((names[k], *parts))
+    return tuple(made[::-1])
+
+
+def plain_of(grove):
+    """Return the tuple of the plain bushes of a Grove."""
+    bag = grove.bag()
+    return renamed(grove.bushes(), [bag.word(name) for name in grove.walk()])
+
+
+def stock_of(book, bushes):
+    """Return the tuple of the numbers of joints of a plain grove, one for each shape of the book."""
+    found = {word: 0 for word in book.words()}
+    for bush in walk_of(bushes):
+        found[bush[0]] += 1
+    return tuple(found.values())
+
+
+def named(book, roots, bushes):
+    """Return the Grove that becomes this plain grove, with the names j1, j2 and so on in the order of a walk."""
+    walk = walk_of(bushes)
+    names = [f"j{k + 1}" for k in range(len(walk))]
+    joints = [(names[k], walk[k][0]) for k in range(len(walk))]
+    return Grove(Bag(book, joints), roots, renamed(bushes, names))
