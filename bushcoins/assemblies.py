@@ -2,7 +2,7 @@
 
 from bushcoins.bags import ROOT, colours_at, is_among
 from bushcoins.errors import BadAssembly, UnknownName
-from bushcoins.groves import Grove, walk_from, wrong_name, wrong_root
+from bushcoins.groves import grove_from, wrong_name, wrong_root
 
 
 def wrong_row(bag, roots, table):
@@ -111,14 +111,7 @@ class Assembly:
         """Return the Grove with the same joints at the same places, or None if there is a ring."""
         if self.rings():
             return None
-        tops = [self._table[(ROOT, n)] for n in range(len(self._roots))]
-        made = {}
-        # From the end of the walk on, what hangs at a joint is made ahead of the joint.
-        for name in reversed(walk_from(self._bag, self._table, tops)):
-            many = len(self._bag.branches(name))
-            parts = [made[self._table[(name, n)]] for n in range(many)]
-            made[name] = (name, *parts)
-        return Grove(self._bag, self._roots, [made[name] for name in tops])
+        return grove_from(self._bag, self._roots, self._table)
 
     def __eq__(self, other):
         if not isinstance(other, Assembly):

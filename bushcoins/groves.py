@@ -158,3 +158,14 @@ class Grove:
         if not isinstance(other, Grove):
             return False
         return self._bag == other._bag and self._roots == other._roots and self._bushes == other._bushes
+
+
+def grove_from(bag, roots, table):
+    """Return the Grove with the joints of table, a dict from each place to a name, at their places; it has no ring."""
+    tops = [table[(ROOT, n)] for n in range(len(roots))]
+    made = {}
+    # From the end of the walk on, what hangs at a joint is made ahead of the joint.
+    for name in reversed(walk_from(bag, table, tops)):
+        parts = [made[table[(name, n)]] for n in range(len(bag.branches(name)))]
+        made[name] = (name, *parts)
+    return Grove(bag, roots, [made[name] for name in tops])
