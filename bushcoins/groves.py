@@ -65,7 +65,7 @@ def standing_in(bushes):
 def walk_from(bag, table, names):
     """Return the names of the joints of the bushes that begin with these joints, in the order of a walk.
 
-    table is a dict from each place to the name of the joint that stands there.
+    table is a dict from each place to the name of the joint that stands there, or None.
     """
     found = []
     waiting = list(reversed(names))
@@ -73,7 +73,8 @@ def walk_from(bag, table, names):
         name = waiting.pop()
         found.append(name)
         for n in reversed(range(len(bag.branches(name)))):
-            waiting.append(table[(name, n)])
+            if table[(name, n)] is not None:
+                waiting.append(table[(name, n)])
     return found
 
 
@@ -160,12 +161,20 @@ class Grove:
         return self._bag == other._bag and self._roots == other._roots and self._bushes == other._bushes
 
 
-def grove_from(bag, roots, table):
-    """Return the Grove with the joints of table, a dict from each place to a name, at their places; it has no ring."""
-    tops = [table[(ROOT, n)] for n in range(len(roots))]
-    made = {}
+def bushes_from(bag, table, tops):
+    """Return the list of the bushes that begin with the joints of tops, which come to no ring.
+
+    table is a dict from each place to the name of its joint, or None; there is None at such a place in a bush.
+    """
+    made = {None: None}
     # From the end of the walk on, what hangs at a joint is made ahead of the joint.
     for name in reversed(walk_from(bag, table, tops)):
         parts = [made[table[(name, n)]] for n in range(len(bag.branches(name)))]
         made[name] = (name, *parts)
-    return Grove(bag, roots, [made[name] for name in tops])
+    return [made[name] for name in tops]
+
+
+def grove_from(bag, roots, table):
+    """Return the Grove with the joints of table, a dict from each place to a name, at their places; it has no ring."""
+    tops = [table[(ROOT, n)] for n in range(len(roots))]
+    return Grove(bag, roots, bushes_from(bag, table, tops))

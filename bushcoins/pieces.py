@@ -5,7 +5,7 @@ from bushcoins.bags import ROOT, colour_of, colours_at, is_among
 HANG = "hang"
 STRETCH = "stretch"
 # The first member of a deed, and how many members it has.
-FORMS = (((HANG,), 3), ((STRETCH,), 5))
+FORMS = ((("hang",), 3), (("stretch",), 5))
 
 
 def hanging(grove):

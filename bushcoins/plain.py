@@ -52,9 +52,13 @@ def stock_of(book, bushes):
     return tuple(found.values())
 
 
+def with_names(book, roots, bushes, names):
+    """Return the Grove that becomes this plain grove, with names in the order of a walk, as in its bag."""
+    joints = [(name, bush[0]) for name, bush in zip(names, walk_of(bushes))]
+    return Grove(Bag(book, joints), roots, renamed(bushes, names))
+
+
 def named(book, roots, bushes):
     """Return the Grove that becomes this plain grove, with the names j1, j2 and so on in the order of a walk."""
-    walk = walk_of(bushes)
-    names = [f"j{k + 1}" for k in range(len(walk))]
-    joints = [(names[k], walk[k][0]) for k in range(len(walk))]
-    return Grove(Bag(book, joints), roots, renamed(bushes, names))
+    many = len(walk_of(bushes))
+    return with_names(book, roots, bushes, [f"j{k + 1}" for k in range(many)])

@@ -54,7 +54,11 @@ class TestLanguage(unittest.TestCase):
         for name, tree in trees():
             for node in ast.walk(tree):
                 self.assertNotIsInstance(node, ast.Import, name)
-                if isinstance(node, ast.ImportFrom):
+                if isinstance(node, ast.ImportFrom) and node.module == "math":
+                    for alias in node.names:
+                        self.assertIn(alias.name, ("gcd", "lcm", "isqrt", "comb", "perm", "factorial"), name)
+                        self.assertIsNone(alias.asname)
+                elif isinstance(node, ast.ImportFrom):
                     self.assertEqual((node.level, node.module.split(".")[0]), (0, "bushcoins"), name)
                     source = node.module.split(".")[1] + ".py"
                     for alias in node.names:
@@ -65,7 +69,8 @@ class TestLanguage(unittest.TestCase):
         needs = {}
         for name, tree in trees():
             needs[name] = {
-                node.module.split(".")[1] + ".py" for node in tree.body if isinstance(node, ast.ImportFrom)
+                node.module.split(".")[1] + ".py"
+                for node in tree.body if isinstance(node, ast.ImportFrom) and node.module != "math"
             }
         while needs:
             free = [name for name in needs if not needs[name] & set(needs)]
@@ -114,7 +119,7 @@ class TestLanguage(unittest.TestCase):
 
     def test_plain_statements_and_values(self):
         barred = (
-            ast.AsyncFunctionDef, ast.Await, ast.Global, ast.Try, ast.With, ast.Set, ast.SetComp, ast.Lambda,
+            ast.AsyncFunctionDef, ast.Await, ast.Global, ast.Try, ast.With, ast.Set, ast.SetComp,
             ast.GeneratorExp, ast.Yield, ast.YieldFrom, ast.Div, ast.NamedExpr, ast.AnnAssign,
         )
         for name, tree in trees():
@@ -122,6 +127,14 @@ class TestLanguage(unittest.TestCase):
                 self.assertNotIsInstance(node, barred, name)
                 if isinstance(node, ast.Constant):
                     self.assertNotIsInstance(node.value, (float, complex, bytes), name)
+
+    def test_lambdas_take_keys_only(self):
+        for name, tree in trees():
+            calls = [node for node in ast.walk(tree) if isinstance(node, ast.Call)]
+            keys = [told.value for node in calls for told in node.keywords if told.arg == "key"]
+            for node in ast.walk(tree):
+                if isinstance(node, ast.Lambda):
+                    self.assertIn(node, keys, name)
 
     def test_is_stands_beside_none_and_truths_only(self):
         for name, tree in trees():
