@@ -92,6 +92,15 @@ class TestIsHeap(Case):
         self.assertIs(is_heap(bag, [bush[1]]), False)
         self.assertEqual(open_places(bag, [bush]), [("b0", 0)])
 
+    def test_bushes_in_every_order(self):
+        bushes = [("t1", ("b1", None), None, ("z1",)), ("r1",), ("z2",), ("t2", None, None, None)]
+        stems = {"t1": "red", "r1": "red", "z2": "blue", "t2": "red"}
+        for value in itertools.permutations(bushes):
+            self.assertIs(is_heap(BAG, value), True)
+            self.assertIs(is_heap(BAG, list(value)), True)
+            self.assertEqual(heap_roots(BAG, value), tuple(stems[bush[0]] for bush in value))
+            self.assertEqual(open_places(BAG, value), [("t1", 1), ("b1", 0), ("t2", 0), ("t2", 1), ("t2", 2)])
+
     def test_roots_and_open_places(self):
         self.assertEqual(heap_roots(BAG, HEAP), ("red", "blue"))
         self.assertEqual(heap_roots(BAG, list(HEAP)[::-1]), ("blue", "red"))
@@ -191,6 +200,14 @@ class TestPacked(Case):
         self.assertTrue(self.check(bag, names * 5))
         self.assertFalse(self.check(bag, names * 5 + ["c0"]))
         self.assertEqual(fewest(bag), 1)
+
+    def test_what_is_passed_stays(self):
+        heap = [("t1", ("b1", None), None, ("z1",)), ("r1",), ("z2",), ("t2", None, None, None)]
+        known = list(heap)
+        is_heap(BAG, heap)
+        heap_roots(BAG, heap)
+        open_places(BAG, heap)
+        self.assertEqual(heap, known)
 
     def test_lists_are_new(self):
         roots = ["red"]
