@@ -1,7 +1,7 @@
 """Bags of joints, and the places of a bag and roots."""
 
 from bushcoins.errors import BadBag, UnknownName
-from bushcoins.words import is_word
+from bushcoins.words import is_number, is_word
 
 ROOT = "root"
 
@@ -99,6 +99,4 @@ def is_among(places, value):
     # True is 1 as a key, and a list is no key: what is looked up is a pair of a string and a number.
     if not isinstance(value, tuple) or len(value) != 2 or not isinstance(value[0], str):
         return False
-    if not isinstance(value[1], int) or isinstance(value[1], bool):
-        return False
-    return value in places
+    return is_number(value[1]) and value in places

@@ -50,6 +50,15 @@ def wrong_bush(roots, bushes, kinds, once):
     return None
 
 
+def wrong_grove(bag, roots, bushes):
+    """Return the path of the first wrong part of a grove of a bag, or None; roots and bushes may be anything."""
+    path = wrong_root(roots)
+    if path is not None:
+        return path
+    kinds = {name: (bag.stem(name), bag.branches(name)) for name in bag.names()}
+    return wrong_bush(roots, bushes, kinds, True)
+
+
 def standing_in(bushes):
     """Return the dict from each place to the name of the joint that stands there."""
     found = {}
@@ -82,10 +91,7 @@ class Grove:
     """A grove of a Bag and roots; it never changes."""
 
     def __init__(self, bag, roots, bushes):
-        path = wrong_root(roots)
-        if path is None:
-            kinds = {name: (bag.stem(name), bag.branches(name)) for name in bag.names()}
-            path = wrong_bush(roots, bushes, kinds, True)
+        path = wrong_grove(bag, roots, bushes)
         if path is not None:
             raise BadGrove(path)
         self._bag = bag

@@ -49,6 +49,14 @@ def open_places(bag, heap):
     return [place for place in places_of(bag, ()) if place in found]
 
 
+def filled(bush, parts):
+    """Return a bush with the members of parts in the places of None, in the order of a walk; parts gets shorter."""
+    found = [bush[0]]
+    for part in bush[1:]:
+        found.append(parts.pop(0) if part is None else filled(part, parts))
+    return tuple(found)
+
+
 def colour_bars(bag, roots):
     """Return the list of the heap bars that tell a colour, ascending by the colours."""
     tops = counted(roots)

@@ -4,6 +4,7 @@ from bushcoins.assemblies import Assembly
 from bushcoins.bags import ROOT, colours_at, is_among
 from bushcoins.building import behind_all, check_built, exchanges_to_roots
 from bushcoins.errors import BadDeed, Unbuilt
+from bushcoins.words import is_index
 
 
 def is_exchange(colours, value):
@@ -103,9 +104,8 @@ def judge_knot(assembly, value):
     rings = assembly.rings()
     if not isinstance(value, tuple) or len(value) == 0:
         return False
-    for number in value:
-        if not isinstance(number, int) or isinstance(number, bool) or number < 0 or number >= len(rings):
-            return False
+    if not all([is_index(number, len(rings)) for number in value]):
+        return False
     if not all([value[k] < value[k + 1] for k in range(len(value) - 1)]):
         return False
     colours = colours_at(assembly.bag(), assembly.roots())

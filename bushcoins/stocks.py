@@ -1,6 +1,7 @@
 """Words, stocks, links and paths of plain groves."""
 
 from bushcoins.plain import stock_of, walk_of
+from bushcoins.words import is_index
 
 
 def words_of(grove):
@@ -42,9 +43,7 @@ def part_at(grove, path):
     # The roots are gone through as if they were the branches of one joint.
     bush = (None, *grove)
     for number in path:
-        if not isinstance(number, int) or isinstance(number, bool):
-            return None
-        if number < 0 or number >= len(bush) - 1:
+        if not is_index(number, len(bush) - 1):
             return None
         bush = bush[number + 1]
     return bush

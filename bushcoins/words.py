@@ -1,4 +1,4 @@
-"""Words: the names of colours, shapes and joints."""
+"""Words, the names of colours, shapes and joints; and what numbers are."""
 
 LETTERS = "abcdefghijklmnopqrstuvwxyz"
 DIGITS = "0123456789"
@@ -12,3 +12,13 @@ def is_word(value):
     if value[0] not in LETTERS:
         return False
     return all([letter in LETTERS or letter in DIGITS for letter in value])
+
+
+def is_number(value):
+    """Return whether value, which may be anything, is an integer; True and False are none."""
+    return isinstance(value, int) and not isinstance(value, bool)
+
+
+def is_index(value, many):
+    """Return whether value, which may be anything, is the number of one of so many things that are counted from 0."""
+    return is_number(value) and 0 <= value < many

@@ -2,7 +2,7 @@
 
 import unittest
 
-from bushcoins.words import is_word
+from bushcoins.words import is_index, is_number, is_word
 from tests.samples import Case, anything
 
 
@@ -48,6 +48,19 @@ class TestIsWord(Case):
                 self.assertIs(is_word(value), False)
         for value in (["a"], ("a",), {"a": "a"}, ["a", "b"], ("a", "b")):
             self.assertIs(is_word(value), False)
+
+
+class TestNumbers(Case):
+    def test_numbers(self):
+        for value in (0, 1, -1, 7, 10 ** 39, -(10 ** 39)):
+            self.assertIs(is_number(value), True)
+        for value in anything():
+            self.assertIs(is_number(value), type(value) is int)
+            self.assertIs(is_index(value, 2), type(value) is int and value in (0, 1))
+
+    def test_indexes(self):
+        self.assertEqual([is_index(k, 3) for k in range(-2, 5)], [False, False, True, True, True, False, False])
+        self.assertIs(is_index(0, 0), False)
 
 
 if __name__ == "__main__":
