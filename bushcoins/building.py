@@ -162,7 +162,7 @@ def exchanges_to_roots(bag, roots, table):
     return found
 
 
-def joined(bag, roots):
+def put_together(bag, roots):
     """Return a dict from each place to its joint, or to None, such that all joints come to roots; this can be done."""
     table = seated(bag, roots)
     return behind_all(table, exchanges_to_roots(bag, roots, table))
@@ -171,7 +171,7 @@ def joined(bag, roots):
 def built(bag, roots):
     """Return a Grove of a bag and roots."""
     check_built(bag, roots)
-    return grove_from(bag, roots, joined(bag, roots))
+    return grove_from(bag, roots, put_together(bag, roots))
 
 
 def is_ascending(value):

@@ -18,9 +18,9 @@ def is_balanced(entries, roots):
     left = stem_counts(entries)
     for root in roots:
         left[root] = left.get(root, 0) - 1
-    for _, _, branches, many in entries:
-        for colour in branches:
-            left[colour] = left.get(colour, 0) - many
+    for entry in entries:
+        for colour in entry[2]:
+            left[colour] = left.get(colour, 0) - entry[3]
     return all([many == 0 for many in left.values()])
 
 

@@ -1,4 +1,4 @@
-"""The forms of texts, and a look at which lexeme may come next in a text of a form."""
+"""The forms of texts and lines, and a look at which lexeme may come next in a text of a form."""
 
 NAME = "NAME"
 NUMBER = "NUMBER"
@@ -26,6 +26,35 @@ RULES = {
         ("}",),
     ),
     "PLACE": (("NAME", "NUMBER"),),
+    "LINE": (
+        ("hang", "PLACE", "PLACE"),
+        ("stretch", "PLACE", "PLACE", "PLACE", "PLACE"),
+        ("nail", "PLACE"),
+        ("free", "PLACE"),
+        ("goal", "GOAL BUSHES"),
+        ("plant", "JOINT LIST", "NAME", "PARTS"),
+        ("fell", "NUMBER"),
+        ("graft", "PLACE", "JOINT LIST", "NAME", "OPEN PARTS"),
+        ("prune", "PLACE", "PLACE"),
+        ("undo",),
+        ("redo",),
+        ("keep", "NAME"),
+        ("show",),
+        ("left",),
+        ("paid",),
+        ("way",),
+        ("at", "PLACE"),
+        ("where", "NAME"),
+        ("to", "NAME"),
+        ("nails",),
+    ),
+    "GOAL BUSHES": (("{", "TOPS"), ()),
+    "JOINT LIST": (("(", "FIRST JOINT"),),
+    "FIRST JOINT": (("NAME", "NAME", "FURTHER JOINTS"), (")",)),
+    "FURTHER JOINTS": ((",", "NAME", "NAME", "FURTHER JOINTS"), (")",)),
+    "OPEN PARTS": (("(", "OPEN PART", "FURTHER OPEN PARTS"), ()),
+    "OPEN PART": (("NAME", "OPEN PARTS"), (";",)),
+    "FURTHER OPEN PARTS": ((",", "OPEN PART", "FURTHER OPEN PARTS"), (")",)),
 }
 
 
@@ -66,8 +95,8 @@ class Reading:
         return True
 
     def is_complete(self):
-        """Return whether the text may end here, and so has to."""
-        return len(self._awaited) == 0
+        """Return whether the text may end here."""
+        return all([NOTHING in RULES.get(form, ()) for form in self._awaited])
 
 
 def is_told(awaited, sort, lexeme):

@@ -1,7 +1,7 @@
 """Heaps: bushes with open branches, and the fewest bushes into which a bag can be packed."""
 
 from bushcoins.bags import ROOT, places_of
-from bushcoins.building import balance, closed_bar, counted, is_closed, joined, names_by_stem, reached
+from bushcoins.building import balance, closed_bar, counted, is_closed, names_by_stem, put_together, reached
 from bushcoins.errors import Unbuilt
 from bushcoins.groves import bushes_from
 
@@ -86,7 +86,7 @@ def packed(bag, roots):
     bar = first_heap_bar(bag, roots)
     if bar is not None:
         raise Unbuilt(bar[0], bar[1])
-    table = joined(bag, roots)
+    table = put_together(bag, roots)
     return bushes_from(bag, table, [table[(ROOT, n)] for n in range(len(roots))])
 
 

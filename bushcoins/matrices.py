@@ -13,8 +13,8 @@ def entries_of_bag(bag):
 def stem_counts(entries):
     """Return the dict from each colour of a stem to the number of the joints that have it."""
     found = {}
-    for _, stem, _, many in entries:
-        found[stem] = found.get(stem, 0) + many
+    for entry in entries:
+        found[entry[1]] = found.get(entry[1], 0) + entry[3]
     return found
 
 

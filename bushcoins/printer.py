@@ -57,9 +57,14 @@ def plain_text(roots, bushes):
     return rows_text(f"plain {list_text(roots)}", [bush_text(bush) for bush in bushes])
 
 
+def place_text(place):
+    """Return the text of a place."""
+    return f"{place[0]} {place[1]}"
+
+
 def deed_text(deed):
     """Return the text of a deed, without its semicolon."""
-    return " ".join([deed[0]] + [f"{name} {number}" for name, number in deed[1:]])
+    return " ".join([deed[0]] + [place_text(place) for place in deed[1:]])
 
 
 def script_text(script):

@@ -23,19 +23,24 @@ def lexemes_of(form, text):
     return [row[1] for row in found]
 
 
-def head_and_rows(form, text):
-    """Return the lexemes ahead of the brace, and the list of the lexemes ahead of each semicolon."""
-    read = lexemes_of(form, text)
-    start = read.index("{")
+def rows_of(read):
+    """Return the list of the lexemes ahead of each semicolon."""
     rows = []
     row = []
-    for lexeme in read[start + 1:-1]:
+    for lexeme in read:
         if lexeme == ";":
             rows.append(row)
             row = []
         else:
             row.append(lexeme)
-    return read[:start], rows
+    return rows
+
+
+def head_and_rows(form, text):
+    """Return the lexemes ahead of the brace, and the list of the lexemes ahead of each semicolon."""
+    read = lexemes_of(form, text)
+    start = read.index("{")
+    return read[:start], rows_of(read[start + 1:-1])
 
 
 def list_of(read):
@@ -44,7 +49,7 @@ def list_of(read):
 
 
 def bush_of(row):
-    """Return the bush that the lexemes of a row tell."""
+    """Return the bush that the lexemes of a row tell; a semicolon in it tells None."""
     # The unfinished bushes, each one a part of the one ahead of it; the first list only holds the whole bush.
     unfinished = [[]]
     for lexeme in row:
@@ -54,15 +59,21 @@ def bush_of(row):
         elif lexeme == ")":
             bush = tuple(unfinished.pop())
             unfinished[-1].append(bush)
+        elif lexeme == ";":
+            unfinished[-1].append(None)
         elif lexeme != ",":
             unfinished[-1].append((lexeme,))
     return unfinished[0][0]
 
 
+def places_in(read):
+    """Return the tuple of the places that the lexemes tell."""
+    return tuple([(read[k], int(read[k + 1])) for k in range(0, len(read), 2)])
+
+
 def deed_of(row):
     """Return the deed that the lexemes of a row tell."""
-    places = [(row[k], int(row[k + 1])) for k in range(1, len(row), 2)]
-    return (row[0], *places)
+    return (row[0], *places_in(row[1:]))
 
 
 def read_book(text):

@@ -202,14 +202,16 @@ class Descent:
         self.name()
         self.number()
 
-    def bush(self):
+    def bush(self, part=None):
+        """A bush; part goes through what may stand within its brackets, if not a bush alone."""
+        part = part or self.bush
         self.name()
         if self.shown() == "(":
             self.at += 1
-            self.bush()
+            part()
             while self.shown() == ",":
                 self.at += 1
-                self.bush()
+                part()
             self.just(")")
 
     def rows(self, row):

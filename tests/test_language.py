@@ -119,7 +119,7 @@ class TestLanguage(unittest.TestCase):
 
     def test_plain_statements_and_values(self):
         barred = (
-            ast.AsyncFunctionDef, ast.Await, ast.Global, ast.Try, ast.With, ast.Set, ast.SetComp,
+            ast.AsyncFunctionDef, ast.Await, ast.Global, ast.With, ast.Set, ast.SetComp,
             ast.GeneratorExp, ast.Yield, ast.YieldFrom, ast.Div, ast.NamedExpr, ast.AnnAssign,
         )
         for name, tree in trees():
@@ -127,6 +127,15 @@ class TestLanguage(unittest.TestCase):
                 self.assertNotIsInstance(node, barred, name)
                 if isinstance(node, ast.Constant):
                     self.assertNotIsInstance(node.value, (float, complex, bytes), name)
+
+    def test_own_errors_alone_are_caught(self):
+        own = {node.name for name, tree in trees() if name == "errors.py" for node in tree.body[1:]}
+        for name, tree in trees():
+            for node in ast.walk(tree):
+                if isinstance(node, ast.Try):
+                    self.assertEqual((name, node.finalbody, node.orelse), ("console.py", [], []))
+                    for handler in node.handlers:
+                        self.assertIn(handler.type.id, own)
 
     def test_lambdas_take_keys_only(self):
         for name, tree in trees():
