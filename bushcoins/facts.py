@@ -101,9 +101,8 @@ def names_at(bag, roots, facts, place):
 
 def sure_facts(bag, roots, facts):
     """Return the list of all facts that are sure, in the order of places."""
-    check_facts(bag, roots, facts)
     rest, tops = melted(bag, roots, facts)
-    # Only what one grove has can be sure.
+    # Only what one grove has can be sure; built refuses facts that none has.
     grove = unmelted_grove(bag, roots, facts, built(rest, tops))
     return [fact for fact in grove.table() if verdict(bag, roots, facts, fact) == SURE]
 

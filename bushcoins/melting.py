@@ -2,7 +2,7 @@
 
 from bushcoins.bags import ROOT, Bag, colours_at, is_among
 from bushcoins.books import Book
-from bushcoins.errors import Clash, UnknownName, UnlikeGroves
+from bushcoins.errors import Clash, UnlikeGroves
 from bushcoins.groves import grove_from
 
 
@@ -80,8 +80,7 @@ def open_from(bag, facts, places):
 def open_places(bag, roots, facts, name):
     """Return the list of the open places of a joint, whose name may be anything."""
     check_clash(bag, roots, facts)
-    if name not in bag.names():
-        raise UnknownName(name)
+    # The bag refuses what is no name.
     return open_from(bag, facts, joint_places(bag, name))
 
 

@@ -69,8 +69,9 @@ class TestForms(ActCase):
         words = {act[0] for act in acts}
         for act in acts:
             for bad in (
-                list(act), act[:-1], act + (act[-1],), act + (None,), act[:1], (act,), [act], (act[0].upper(),) + act[1:],
-                (act[0] + " ",) + act[1:], ([act[0]],) + act[1:], ((act[0],),) + act[1:], act[1:], act[0], {act[0]: 1},
+                list(act), act[:-1], act + (act[-1],), act + (None,), act[:1], (act,), [act],
+                (act[0].upper(),) + act[1:], (act[0] + " ",) + act[1:],
+                ([act[0]],) + act[1:], ((act[0],),) + act[1:], act[1:], act[0], {act[0]: 1},
             ):
                 self.check(SAMPLE, bad, "form")
             # The words of other acts have other numbers of members, or are told wrongly otherwise.
@@ -218,15 +219,16 @@ class TestPlants(ActCase):
 
     def test_joints(self):
         bad = [
-            None, [], list(TWO), TWO + (["x", "z"],), TWO + (("x", "z", 0),), TWO + (("x",),), TWO + ((),), TWO + (None,),
-            TWO + (("m", "b"),), TWO + (("n", "z"),), TWO + (("p", "z"),), TWO + (("z", "z"),), TWO + (("root", "z"),),
+            None, [], list(TWO), TWO + (["x", "z"],), TWO + (("x", "z", 0),), TWO + (("x",),), TWO + ((),),
+            TWO + (None,), TWO + (("m", "b"),),
+            TWO + (("n", "z"),), TWO + (("p", "z"),), TWO + (("z", "z"),), TWO + (("root", "z"),),
             TWO + (("X", "z"),), TWO + (("", "z"),), TWO + (("x" * 13, "z"),), TWO + (("1x", "z"),), TWO + ((7, "z"),),
-            TWO + (("x", "y"),), TWO + (("x", "blue"),), TWO + (("x", None),), TWO + (("x", ["z"]),), TWO + (("x", ""),),
-            TWO[0], (("m", ("b",)), TWO[1]), {"m": "b", "n": "z"}, "mb", True,
+            TWO + (("x", "y"),), TWO + (("x", "blue"),), TWO + (("x", None),), TWO + (("x", ["z"]),),
+            TWO + (("x", ""),), TWO[0], (("m", ("b",)), TWO[1]), {"m": "b", "n": "z"}, "mb", True,
         ]
         for value in anything() + bad:
             # () is a tuple of no joints.
-            self.check(SAMPLE, ("plant", value, ("m", ("n",))), "bush" if value == () and type(value) is tuple else "joints")
+            self.check(SAMPLE, ("plant", value, ("m", ("n",))), "bush" if value == () else "joints")
             if value != ():
                 self.check(SAMPLE, ("plant", value, None), "joints")
                 self.check(SAMPLE, ("graft", ("q", 0), value, ("m", None)), "joints")
@@ -249,7 +251,7 @@ class TestPlants(ActCase):
         self.check(SAMPLE, ("plant", joints, ("g", ("h",), ("i",))), None)
         self.check(SAMPLE, ("plant", joints[:2], ("g", ("h",), ("i",))), "bush")
         self.check(SAMPLE, ("plant", joints + (("j", "z"),), ("g", ("h",), ("i",))), "bush")
-        self.check(SAMPLE, ("plant", (("m", "b"), ("g", "a"), ("h", "z"), ("i", "z")), ("m", ("g", ("h",), ("i",)))), "bush")
+        self.check(SAMPLE, ("plant", (("m", "b"),) + joints, ("m", ("g", ("h",), ("i",)))), "bush")
         self.check(SAMPLE, ("plant", joints, ("g", ("h",), None)), "bush")
         self.check(SAMPLE, ("plant", (), ()), "bush")
         self.check(SAMPLE, ("plant", (), None), "bush")
@@ -297,8 +299,9 @@ class TestGrafts(ActCase):
     def test_bushes(self):
         place = ("q", 0)
         bad = [
-            ["m", None], ("m",), ("m", None, None), ("m", ("n",)), ("n", None), None, (None,), ((None,),), ("m", (None,)),
-            ("m", ("m", None)), ("m", ()), ("m", False), ("m", 0), ("m", ""), ("m", "root"), ("m", ("root",)), "m",
+            ["m", None], ("m",), ("m", None, None), ("m", ("n",)), ("n", None), None, (None,), ((None,),),
+            ("m", (None,)), ("m", ("m", None)),
+            ("m", ()), ("m", False), ("m", 0), ("m", ""), ("m", "root"), ("m", ("root",)), "m",
         ]
         for value in anything() + bad:
             self.check(SAMPLE, ("graft", place, (("m", "b"),), value), "bush")
@@ -332,9 +335,10 @@ class TestGrafts(ActCase):
         self.check(stand, ("graft", red, both, ("n", ("o", ("s",), None))), "bush")
         self.check(stand, ("graft", red, (("n", "b"),), ("n", None)), "bush")
         self.check(stand, ("graft", blue, (("n", "b"),), ("n", None)), "bush")
-        self.check(stand, ("graft", blue, (("n", "b"), ("o", "a"), ("s", "r")), ("n", ("o", None, ("s",)))), None)
-        self.check(stand, ("graft", ("root", 1), (("n", "b"), ("o", "a"), ("s", "r")), ("n", ("o", None, ("s",)))), None)
-        self.check(stand, ("graft", ("root", 0), (("n", "b"), ("o", "a"), ("s", "r")), ("n", ("o", None, ("s",)))), "bush")
+        blue_bush = ((("n", "b"), ("o", "a"), ("s", "r")), ("n", ("o", None, ("s",))))
+        self.check(stand, ("graft", blue) + blue_bush, None)
+        self.check(stand, ("graft", ("root", 1)) + blue_bush, None)
+        self.check(stand, ("graft", ("root", 0)) + blue_bush, "bush")
 
 
 class TestFells(ActCase):

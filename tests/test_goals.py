@@ -124,6 +124,8 @@ class TestUnlikeGroves(Case):
             for call in (
                 lambda: left_after(one, other, []), lambda: waste(one, other, []), lambda: barred_nails(one, other, []),
                 lambda: barred_nails(one, other, [("root", 0)]), lambda: nearest(one, [other]),
+                # Ahead of a script that can not be done.
+                lambda: left_after(one, other, [None]), lambda: waste(one, other, [None]),
                 lambda: nearest(one, [one, other]), lambda: nearest(one, [other, one]),
                 lambda: nearest(one, [one] * 3 + [other]),
             ):

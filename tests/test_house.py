@@ -13,7 +13,9 @@ from bushcoins.goals import waste
 from bushcoins.groves import Grove
 from bushcoins.house import House, joined, parted
 from tests.lands import PLAIN_BOOK, large_grove, mixed_grove, spoilt, twin_roots_grove
-from tests.lives import BAD, FELL, FREE, GOAL, HANG, MOVE, NAIL, PLANT, Ledger, live, other_house, sample_house, state_of
+from tests.lives import (
+    BAD, FELL, FREE, GOAL, HANG, MOVE, NAIL, PLANT, Ledger, live, other_house, sample_house, state_of,
+)
 from tests.samples import Case, anything, random_source, sample_book, sample_grove
 from tests.yards import Yard, any_act, bush_at
 
@@ -150,8 +152,8 @@ class TestActs(HouseCase):
         house.undo()
         house.keep("mark")
         for call in (
-            house.done, house.undone, house.nails, house.paid, house.marks, lambda: sample_house(HANG, GOAL, HANG).way(),
-            lambda: sample_house(HANG, GOAL, HANG).next_deeds(),
+            house.done, house.undone, house.nails, house.paid, house.marks,
+            lambda: sample_house(HANG, GOAL, HANG).way(), lambda: sample_house(HANG, GOAL, HANG).next_deeds(),
         ):
             self.assert_new(call)
         other = sample_house(GOAL)
@@ -557,7 +559,8 @@ class TestJoined(HouseCase):
         common = Grove(Bag(sample_book(), [("y", "z")]), ("blue",), (("y",),))
         turned = Book(sample_book().shapes()[::-1])
         for other in (
-            sample_house(), one, one.twin(), House(common), House(Grove(Bag(turned, [("u", "z")]), ("blue",), (("u",),))),
+            sample_house(), one, one.twin(), House(common),
+            House(Grove(Bag(turned, [("u", "z")]), ("blue",), (("u",),))),
             House(twin_roots_grove()), House(Grove(Bag(Book([]), []), (), ())),
         ):
             for first, second in ((one, other), (other, one)):
@@ -657,7 +660,8 @@ class TestParted(HouseCase):
         self.assertEqual([part.goal() for part in parted(house, 2)], [None, None])
         house.do(("goal", (("y",), ("b", ("x",)), ("d", ("z",)))))
         self.assertEqual([part.goal() for part in parted(house, 1)], [None, None])
-        self.assertEqual([part.goal().bushes() for part in parted(house, 2)], [[("y",), ("b", ("x",))], [("d", ("z",))]])
+        one, other = parted(house, 2)
+        self.assertEqual((one.goal().bushes(), other.goal().bushes()), ([("y",), ("b", ("x",))], [("d", ("z",))]))
         self.assertEqual([part.left() for part in parted(house, 2)], [1, 0])
 
     def test_joined_again(self):

@@ -93,8 +93,10 @@ class TestLook(Case):
 
     def test_values_that_are_no_paths(self):
         grove = (("a", ("b", ("z",)), ("z",)),)
-        bad = [(0, 0, 0, 0), (0, 2), (0, -1), (1,), (-1,), (True,), (False,), (0, False), (0, True), [0], [0, 0], ("0",)]
-        for value in [each for each in anything() if each != (0, 0)] + bad + [(0, [0]), (0, None), ((0,),), 0, "0", {0: 0}, (0, 1, 0), (0, 0, 1)]:
+        bad = [each for each in anything() if each != (0, 0)]
+        bad += [(0, 0, 0, 0), (0, 2), (0, -1), (1,), (-1,), (True,), (False,), (0, False), (0, True), [0], [0, 0]]
+        bad += [("0",), (0, [0]), (0, None), ((0,),), 0, "0", {0: 0}, (0, 1, 0), (0, 0, 1)]
+        for value in bad:
             for depth in (0, 1, 3):
                 self.assert_unknown(UnknownName, value, look, sample_book(), grove, value, depth)
         self.assert_unknown(UnknownName, (), look, sample_book(), grove, (), 1)

@@ -14,7 +14,8 @@ from tests.samples import Case, anything, sample_book
 
 PLAIN = Book(PLAIN_BOOK)
 # Values of every kind that are no number of one of two roots.
-NO_OWNERS = [value for value in anything() if not (type(value) is int and value in (0, 1))] + [-1, 2, -2, "0", (0,), [0]]
+NO_OWNERS = [value for value in anything() if not (type(value) is int and value in (0, 1))]
+NO_OWNERS += [-1, 2, -2, "0", (0,), [0]]
 
 
 def parts_of(stock):
@@ -85,7 +86,8 @@ class TestDealings(Case):
         roots, stock = ("c", "c"), (1, 2, 3)
         self.assertIs(can_have(PLAIN, roots, stock, 0, (1, 0, 2)), True)
         bad = [
-            [1, 0, 2], (1, 0), (1, 0, 2, 0), (1, 0, -2), (True, False, 2), (True, 0, 2), (1, False, 2), (1, 0, None),
+            [1, 0, 2], (1, 0), (1, 0, 2, 0), (1, 0, -2), (1, -1, 2), (-1, 0, 1), (True, False, 2), (True, 0, 2),
+            (1, False, 2), (1, 0, None),
             (1, 0, "2"), (1, 0, (2,)), (1, 0, 4), (2, 0, 3), (0, 0, 0), (1, 2, 3), (), (1, 0, 10 ** 39), ((1, 0, 2),),
             "102", {1: 0},
         ]
