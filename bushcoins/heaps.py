@@ -49,12 +49,30 @@ def open_places(bag, heap):
     return [place for place in places_of(bag, ()) if place in found]
 
 
+def walk_open(bush):
+    """Return the list of a bush and of all bushes in it, and None for each open branch, in the order of a walk."""
+    found = []
+    waiting = [bush]
+    while waiting:
+        part = waiting.pop()
+        found.append(part)
+        if part is not None:
+            waiting.extend(part[:0:-1])
+    return found
+
+
 def filled(bush, parts):
-    """Return a bush with the members of parts in the places of None, in the order of a walk; parts gets shorter."""
-    found = [bush[0]]
-    for part in bush[1:]:
-        found.append(parts.pop(0) if part is None else filled(part, parts))
-    return tuple(found)
+    """Return a bush with the members of parts in the places of None, in the order of a walk."""
+    left = list(parts)
+    # From the end of the walk on, the bushes of a bush are made ahead of it, its first one last.
+    made = []
+    for part in reversed(walk_open(bush)):
+        if part is None:
+            made.append(left.pop())
+        else:
+            below = [made.pop() for _ in range(len(part) - 1)]
+            made.append((part[0], *below))
+    return made[0]
 
 
 def colour_bars(bag, roots):

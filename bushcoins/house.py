@@ -66,9 +66,8 @@ class House:
         """Do the first undone act again, and return the number of done acts."""
         if not self._undone:
             raise NothingDone()
-        act = self._undone.pop(0)
-        self._stands.append(after(self._stands[-1], act))
-        self._done.append(act)
+        self._stands.append(after(self._stands[-1], self._undone[0]))
+        self._done.append(self._undone.pop(0))
         return len(self._done)
 
     def done(self):

@@ -4,7 +4,7 @@ from bushcoins.counting import count_named, count_of, entries_of_stock, firsts, 
 from bushcoins.errors import TooGreat
 from bushcoins.groves import Grove
 from bushcoins.matrices import entries_of_bag
-from bushcoins.plain import stock_of
+from bushcoins.plain import bushes_from_row, stock_of
 from bushcoins.stocks import words_of
 
 
@@ -48,12 +48,7 @@ def row_number(entries, roots, labels):
 def bushes_of(entries, row):
     """Return the tuple of the bushes of which a row tells the labels."""
     branches = {entry[0]: len(entry[2]) for entry in entries}
-    # From the end of the row on, the bushes of a bush are made ahead of it, its first one last.
-    made = []
-    for label in reversed(row):
-        parts = [made.pop() for _ in range(branches[label])]
-        made.append((label, *parts))
-    return tuple(made[::-1])
+    return bushes_from_row([(label, branches[label]) for label in row])
 
 
 def grove_at(bag, roots, number):

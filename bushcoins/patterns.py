@@ -4,7 +4,7 @@ from math import comb
 
 from bushcoins.counting import NEW, count_of, count_plain, entries_of_stock, fraction
 from bushcoins.errors import BadPattern, Overlaps
-from bushcoins.heaps import filled
+from bushcoins.heaps import filled, walk_open
 from bushcoins.numbering import bushes_of, rows_from
 from bushcoins.plain import stock_of
 from bushcoins.stocks import bushes_by_path
@@ -39,13 +39,7 @@ def check_pattern(book, pattern):
 
 def parts_of(pattern):
     """Return the list of the parts that begin with the joints of a pattern, itself first, in the order of a walk."""
-    found = []
-    waiting = [pattern]
-    while waiting:
-        part = waiting.pop()
-        found.append(part)
-        waiting.extend([below for below in part[:0:-1] if below is not None])
-    return found
+    return [part for part in walk_open(pattern) if part is not None]
 
 
 def pattern_stock(book, pattern):

